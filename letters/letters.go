@@ -3,7 +3,7 @@ package letters
 
 // IsLetter: one of ASCII, or `_`.
 func IsLetter(c byte) bool {
-	return 'a' <= c && c <= 'z' || isCapital(c) || c == '_'
+	return isSmall(c) || isCapital(c) || c == '_'
 }
 
 // IsDigit: 0 to 9.
@@ -13,6 +13,8 @@ func IsDigit(c byte) bool { return '0' <= c && c <= '9' }
 func IsBlank(c byte) bool {
 	return c == ' ' || c == '\t' || c == '\n' || c == '\r'
 }
+
+func isSmall(c byte) bool { return 'a' <= c && c <= 'z' }
 
 func isCapital(c byte) bool { return 'A' <= c && c <= 'Z' }
 
@@ -25,6 +27,17 @@ func Small(s string) string {
 		}
 	}
 	return string(small)
+}
+
+// Capital is s with small letters of ASCII turned.
+func Capital(s string) string {
+	capital := []byte(s)
+	for i, c := range capital {
+		if isSmall(c) {
+			capital[i] = c - 'a' + 'A'
+		}
+	}
+	return string(capital)
 }
 
 // NameLength is how many bytes the name has with which s begins: 0, if it begins with none.

@@ -23,13 +23,20 @@ func TestBytesAreToldApart(t *testing.T) {
 		if want := strings.IndexByte(blanks, c) >= 0; IsBlank(c) != want {
 			t.Errorf("IsBlank(%q) = %v", c, !want)
 		}
-		want := string([]byte{c})
-		if k := strings.IndexByte(capitals, c); k >= 0 {
-			want = smalls[k : k+1]
-		}
-		if got := Small(string([]byte{c})); got != want {
-			t.Errorf("Small(%q) = %q, want %q", c, got, want)
-		}
+		turns(t, "Small", Small, c, capitals, smalls)
+		turns(t, "Capital", Capital, c, smalls, capitals)
+	}
+}
+
+// turns asks whether one byte is turned as these letters are.
+func turns(t *testing.T, name string, turn func(string) string, c byte, from, to string) {
+	t.Helper()
+	want := string([]byte{c})
+	if k := strings.IndexByte(from, c); k >= 0 {
+		want = to[k : k+1]
+	}
+	if got := turn(string([]byte{c})); got != want {
+		t.Errorf("%s(%q) = %q, want %q", name, c, got, want)
 	}
 }
 
@@ -37,6 +44,14 @@ func TestSmallTurnsASCIIAlone(t *testing.T) {
 	for text, want := range map[string]string{"": "", "aBC_1-Z": "abc_1-z", "ÄÉ\u212a": "ÄÉ\u212a", "\xff\xc4X": "\xff\xc4x"} {
 		if got := Small(text); got != want {
 			t.Errorf("Small(%q) = %q, want %q", text, got, want)
+		}
+	}
+}
+
+func TestCapitalTurnsASCIIAlone(t *testing.T) {
+	for text, want := range map[string]string{"": "", "aBC_1-z": "ABC_1-Z", "äéß\u017f": "äéß\u017f", "\xff\xe4x": "\xff\xe4X"} {
+		if got := Capital(text); got != want {
+			t.Errorf("Capital(%q) = %q, want %q", text, got, want)
 		}
 	}
 }

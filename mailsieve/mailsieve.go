@@ -3,6 +3,7 @@ package mailsieve
 
 import (
 	"mailsieve/api"
+	"mailsieve/run"
 	"mailsieve/script"
 )
 
@@ -27,7 +28,12 @@ func (s *Script) Text() string {
 }
 
 // Run tells what is to be done with a message (P10 to P16).
-func (s *Script) Run(m api.Message) ([]api.Action, error) { return nil, nil }
+func (s *Script) Run(m api.Message) ([]api.Action, error) {
+	if s == nil {
+		return run.Run(script.Tree{}, m)
+	}
+	return run.Run(s.tree, m)
+}
 
 // Code tells instructions that do what the script does (P17).
 func (s *Script) Code() []api.Ins { return nil }

@@ -4,6 +4,7 @@ import (
 	"slices"
 
 	"mailsieve/api"
+	"mailsieve/fault"
 	"mailsieve/letters"
 )
 
@@ -15,7 +16,7 @@ func (r *reader) next() {
 // demand throws a fault at the word that is asked now, unless something holds.
 func (r *reader) demand(holds bool, e api.Errno) {
 	if !holds {
-		panic(fault(e, r.word.at))
+		panic(fault.At(e, r.word.at))
 	}
 }
 

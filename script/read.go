@@ -4,6 +4,7 @@ import (
 	"slices"
 
 	"mailsieve/api"
+	"mailsieve/fault"
 	"mailsieve/letters"
 )
 
@@ -29,12 +30,8 @@ func Parse(text string) (tree Tree, err error) {
 		return Tree{}, api.ErrLong
 	}
 	defer func() {
-		switch thrown := recover().(type) {
-		case nil:
-		case *api.Fault:
-			tree, err = Tree{}, thrown
-		default:
-			panic(thrown) // no fault of the text: it must not look like an answer
+		if f := fault.Caught(recover()); f != nil {
+			tree, err = Tree{}, f
 		}
 	}()
 	return newReader(text).script(), nil

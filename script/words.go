@@ -5,6 +5,7 @@ import (
 	"strings"
 
 	"mailsieve/api"
+	"mailsieve/fault"
 	"mailsieve/letters"
 )
 
@@ -28,9 +29,6 @@ type word struct {
 	number int
 }
 
-// fault is what is thrown where a text is found to be no script; Parse catches it.
-func fault(e api.Errno, at int) *api.Fault { return &api.Fault{Err: e, At: at} }
-
 // skip tells where the next word begins: behind blanks and comments.
 func skip(text string, at int) int {
 	for at < len(text) {
@@ -43,7 +41,7 @@ func skip(text string, at int) int {
 		case strings.HasPrefix(rest, "/*"):
 			inside := strings.Index(rest[2:], "*/")
 			if inside < 0 {
-				panic(fault(api.ErrWord, at))
+				panic(fault.At(api.ErrWord, at))
 			}
 			at += len("/*") + inside + len("*/")
 		default:
@@ -72,7 +70,7 @@ func scan(text string, at int) (word, int) {
 	case c == ':':
 		length := letters.NameLength(text[at+1:])
 		if length == 0 {
-			panic(fault(api.ErrWord, at))
+			panic(fault.At(api.ErrWord, at))
 		}
 		return scanSpelt(tag, text, at, 1+length)
 	case letters.IsDigit(c):
@@ -82,7 +80,7 @@ func scan(text string, at int) (word, int) {
 	case strings.IndexByte(";,(){}[]", c) >= 0:
 		return scanSpelt(sign, text, at, 1)
 	}
-	panic(fault(api.ErrWord, at))
+	panic(fault.At(api.ErrWord, at))
 }
 
 func scanSpelt(k kind, text string, at int, length int) (word, int) {
@@ -107,10 +105,10 @@ func scanNumber(text string, at int) (word, int) {
 		behind++
 	}
 	if next := byteAt(text, behind); letters.IsLetter(next) || letters.IsDigit(next) {
-		panic(fault(api.ErrWord, at))
+		panic(fault.At(api.ErrWord, at))
 	}
 	if value > greatest {
-		panic(fault(api.ErrNumber, at))
+		panic(fault.At(api.ErrNumber, at))
 	}
 	return word{kind: number, at: at, number: int(value)}, behind
 }
@@ -134,5 +132,5 @@ func scanQuote(text string, at int) (word, int) {
 		}
 		said = append(said, text[i])
 	}
-	panic(fault(api.ErrWord, at))
+	panic(fault.At(api.ErrWord, at))
 }
