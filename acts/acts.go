@@ -67,6 +67,7 @@ func (l *List) Add(a api.Action) api.Errno {
 	if len(l.met) == api.MaxActs {
 		return api.ErrActions
 	}
+	a.Arg = strings.Clone(a.Arg) // so that the list shares no memory with what it was told
 	l.met = append(l.met, a)
 	return api.OK
 }

@@ -6,6 +6,8 @@ import (
 	"testing"
 
 	"mailsieve/api"
+	"mailsieve/mailsieve"
+	"mailsieve/script"
 )
 
 // said is a script, a message, and what is to be done with it.
@@ -42,7 +44,7 @@ func to(address string) api.Action { return api.Action{Kind: api.Redirect, Arg: 
 
 func rejected(reason string) api.Action { return api.Action{Kind: api.Reject, Arg: reason} }
 
-// run runs a script twice, and asks what P2 says of all runs.
+// run runs a script twice, and asks what P2 says of all runs, and P17 of its code.
 func run(t *testing.T, text string, m api.Message) ([]api.Action, error) {
 	t.Helper()
 	s, err := parse(text)
@@ -63,10 +65,37 @@ func run(t *testing.T, text string, m api.Message) ([]api.Action, error) {
 	if !slices.Equal(own.Headers, m.Headers) {
 		t.Errorf("%q has written into the message: %+v was %+v", text, own.Headers, m.Headers)
 	}
-	if !slices.Equal(again, got) || (other == nil) != (err == nil) || err != nil && other.Error() != err.Error() {
+	if !slices.Equal(again, got) || !sameFault(err, other) {
 		t.Errorf("%q says %v, %v, then %v, %v", text, got, err, again, other)
 	}
+	byCode(t, s, text, m, got, err)
 	return got, err
+}
+
+// sameFault: no error twice, or the same at the same place.
+func sameFault(a, b error) bool {
+	var f, g *api.Fault
+	if errors.As(a, &f) && errors.As(b, &g) {
+		return *f == *g
+	}
+	return a == nil && b == nil
+}
+
+// byCode asks that a script's code, and its tree, say what it has said.
+func byCode(t *testing.T, s *mailsieve.Script, text string, m api.Message, want []api.Action, fault error) {
+	t.Helper()
+	tree, err := script.Parse(text)
+	if err != nil {
+		t.Fatal(err)
+	}
+	if got, err := walk(tree, m); !slices.Equal(got, want) || !sameFault(err, fault) {
+		t.Errorf("%q with %+v says %v, %v, its tree %v, %v", text, m, want, fault, got, err)
+	}
+	list := s.Code()
+	got, done, err := exec(t, slices.Contains(tree.Requires, "variables"), list, m)
+	if !slices.Equal(got, want) || !sameFault(err, fault) || done > len(list) || len(list) > 400 {
+		t.Errorf("%q with %+v says %v, %v, its code %v, %v, %d of %d being done", text, m, want, fault, got, err, done, len(list))
+	}
 }
 
 // says runs scripts with these words ahead of each.

@@ -2,8 +2,11 @@
 package mailsieve
 
 import (
+	"slices"
+
 	"mailsieve/api"
-	"mailsieve/run"
+	"mailsieve/code"
+	"mailsieve/machine"
 	"mailsieve/script"
 )
 
@@ -19,28 +22,30 @@ func Parse(text string) (*Script, error) {
 	return &Script{tree}, nil
 }
 
-// Text writes the script (P9).
-func (s *Script) Text() string {
+// said is what a script says; one that is nil says what an empty one does.
+func (s *Script) said() script.Tree {
 	if s == nil {
-		return ""
+		return script.Tree{}
 	}
-	return s.tree.Text()
+	return s.tree
 }
 
-// Run tells what is to be done with a message (P10 to P16).
+// Text writes the script (P9).
+func (s *Script) Text() string { return s.said().Text() }
+
+// Run tells what is to be done with a message (P10 to P16): the machine does the script's instructions.
 func (s *Script) Run(m api.Message) ([]api.Action, error) {
-	if s == nil {
-		return run.Run(script.Tree{}, m)
-	}
-	return run.Run(s.tree, m)
+	variables := slices.Contains(s.said().Requires, "variables")
+	list, _, err := machine.Exec(variables, s.Code(), m)
+	return list, err
 }
 
 // Code tells instructions that do what the script does (P17).
-func (s *Script) Code() []api.Ins { return nil }
+func (s *Script) Code() []api.Ins { return code.Of(s.said()) }
 
 // Exec does instructions (P18).
 func Exec(variables bool, code []api.Ins, m api.Message) ([]api.Action, int, error) {
-	return nil, 0, nil
+	return machine.Exec(variables, code, m)
 }
 
 // Deliver leaves what the actions ask on a disk, all of it or nothing (P19 to P21).
