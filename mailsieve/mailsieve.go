@@ -8,6 +8,7 @@ import (
 	"mailsieve/code"
 	"mailsieve/machine"
 	"mailsieve/script"
+	"mailsieve/store"
 )
 
 // Script is what a text says.
@@ -49,7 +50,9 @@ func Exec(variables bool, code []api.Ins, m api.Message) ([]api.Action, int, err
 }
 
 // Deliver leaves what the actions ask on a disk, all of it or nothing (P19 to P21).
-func Deliver(d api.Disk, id string, acts []api.Action, text string) error { return nil }
+func Deliver(d api.Disk, id string, acts []api.Action, text string) error {
+	return store.Deliver(d, id, acts, text)
+}
 
 // Recover ends what went down (P22).
-func Recover(d api.Disk) error { return nil }
+func Recover(d api.Disk) error { return store.Recover(d) }
