@@ -26,7 +26,7 @@ func (m moment) drive() *drive {
 
 func (m moment) key() string { return fmt.Sprintf("%q %q", m.durable, m.waiting) }
 
-// losses are all files that may be there when the disk went down: of what waits each thing done, or not, or of a Write a beginning.
+// losses are what files may be there when the disk went down: of what waits each thing done, or not, or of a Write a beginning (where several things wait, some of its beginnings, as all would be too many).
 func (m moment) losses() []files {
 	may := []files{m.durable}
 	for _, k := range m.waiting {
@@ -58,7 +58,7 @@ func (k task) kept(each bool) []task {
 	return list
 }
 
-// walkDown goes through all moments to which a delivery and recoveries can come, wherever and however often the disk goes down or is in trouble, and asks at each of them for a Recover that says nil, and one of two outcomes.
+// walkDown goes through the moments to which a delivery and recoveries can come (as losses has them), wherever and however often the disk goes down or is in trouble, and asks at each of them for a Recover that says nil, and one of two outcomes.
 type walkDown struct {
 	*testing.T
 	none, all files
